@@ -1,0 +1,10 @@
+"""The numbers that refused calls are answered by."""
+
+NO_SUCH_PLY = -2
+NOT_STARTED = -11
+TOO_LITTLE_FABRIC = -12
+TOO_MANY_ENDS = -13
+TOO_MANY_LAYERS = -16
+WRONG_NUMBER = -22
+TOO_MANY_PLIES = -28
+NOTHING_MISSING = -62
