@@ -1,7 +1,7 @@
 """Each call on a mould: it is handed the call's numbers and gives back the numbers it answers."""
 
 from blademould.mould import KINDS, Ply
-from blademould.planning import fewest_spans, plan_spans
+from blademould.planning import fewest_spans
 from blademould.refusals import (
     NO_SUCH_PLY, NOT_STARTED, NOTHING_MISSING, TOO_LITTLE_FABRIC, TOO_MANY_ENDS, TOO_MANY_LAYERS, TOO_MANY_PLIES,
     WRONG_NUMBER,
@@ -32,7 +32,7 @@ def start(mould, numbers):
 def set_need(mould, numbers):
     station = numbers[0]
     layers = numbers[1]
-    if station >= mould.station_count() or layers > MOST_NEEDED:
+    if not mould.has_station(station) or layers > MOST_NEEDED:
         return [WRONG_NUMBER]
     if mould.layers_at(station) > layers:
         return [TOO_MANY_LAYERS]
@@ -74,7 +74,7 @@ def lift(mould, numbers):
 
 def missing(mould, numbers):
     station = numbers[0]
-    if station >= mould.station_count():
+    if not mould.has_station(station):
         return [WRONG_NUMBER]
     return [mould.missing_at(station)]
 
@@ -88,7 +88,7 @@ def fewest(mould, numbers):
 
 
 def plan(mould, numbers):
-    spans = plan_spans(mould.lacking())
+    spans = mould.planned()
     answer = [len(spans)]
     for first, behind in spans:
         answer.append(first)
@@ -97,12 +97,89 @@ def plan(mould, numbers):
 
 
 def goes(mould, numbers):
-    return [1 if mould.has_ends_for(plan_spans(mould.lacking())) else 0]
+    return [1 if mould.has_ends_for(mould.planned()) else 0]
 
 
 def fabric(mould, numbers):
-    # Whatever plies make what is missing, each missing layer takes one station's length.
-    return [sum(mould.lacking()) * mould.long]
+    return [mould.planned_fabric()]
+
+
+def follow(mould, numbers):
+    kind = numbers[0]
+    if kind >= KINDS:
+        return [WRONG_NUMBER]
+    spans = mould.planned()
+    if not mould.has_ends_for(spans):
+        return [TOO_MANY_ENDS]
+    if mould.planned_fabric() > mould.stock[kind]:
+        return [TOO_LITTLE_FABRIC]
+    if len(mould.plies) + len(spans) > MOST_PLIES:
+        return [TOO_MANY_PLIES]
+    for first, behind in spans:
+        mould.lay_ply(Ply(first, behind, kind))
+    return [len(spans)]
+
+
+def ends(mould, numbers):
+    station = numbers[0]
+    if not mould.has_station(station):
+        return [WRONG_NUMBER]
+    return [mould.ends_with([])[station]]
+
+
+def worst(mould, numbers):
+    at_each = mould.ends_with([])
+    most = max(at_each)
+    return [most, at_each.index(most)]
+
+
+def stack(mould, numbers):
+    station = numbers[0]
+    if not mould.has_station(station):
+        return [WRONG_NUMBER]
+    plies = mould.stack_at(station)
+    return [len(plies)] + plies
+
+
+def kinds(mould, numbers):
+    station = numbers[0]
+    if not mould.has_station(station):
+        return [WRONG_NUMBER]
+    from_below = mould.kinds_at(station)
+    return [KINDS] + [from_below.count(kind) for kind in range(KINDS)]
+
+
+def alike(mould, numbers):
+    station = numbers[0]
+    if not mould.has_station(station):
+        return [WRONG_NUMBER]
+    return [mould.alike_at(station)]
+
+
+def swap(mould, numbers):
+    one = numbers[0]
+    other = numbers[1]
+    if one not in mould.plies or other not in mould.plies:
+        return [NO_SUCH_PLY]
+    if one == other:
+        return [WRONG_NUMBER]
+    mould.swap_plies(one, other)
+    return [0]
+
+
+def stock(mould, numbers):
+    kind = numbers[0]
+    if kind >= KINDS:
+        return [WRONG_NUMBER]
+    return [mould.stock[kind]]
+
+
+def metres(mould, numbers):
+    return [sum(mould.stock), mould.fabric_in_plies(), mould.scrap]
+
+
+def state(mould, numbers):
+    return [mould.station_count(), mould.long, mould.most_ends, len(mould.plies)]
 
 
 CALLS = {
@@ -117,6 +194,16 @@ CALLS = {
     8: plan,
     9: goes,
     10: fabric,
+    11: follow,
+    12: ends,
+    13: worst,
+    14: stack,
+    15: kinds,
+    16: alike,
+    17: swap,
+    18: stock,
+    19: metres,
+    20: state,
 }
 
 
@@ -124,7 +211,5 @@ def answer_call(mould, call, numbers):
     """What the call with this number answers."""
     if call != START and not mould.is_begun():
         return [NOT_STARTED]
-    if call not in CALLS:
-        raise NotImplementedError(f"call {call} is not written yet")
     answered_by = CALLS[call]
     return answered_by(mould, numbers)

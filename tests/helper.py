@@ -8,10 +8,13 @@ FEWEST = [7]
 PLAN = [8]
 GOES = [9]
 FABRIC = [10]
+WORST = [13]
+METRES = [19]
+STATE = [20]
 # One call of each that comes behind start, as the interface writes it.
 AFTER_START = [
     [1, 0, 0], [2, 0, 1], [3, 0, 1, 0], [4, 0], [5, 0], LACKS, FEWEST, PLAN, GOES, FABRIC,
-    [11, 0], [12, 0], [13], [14, 0], [15, 0], [16, 0], [17, 0, 1], [18, 0], [19], [20],
+    [11, 0], [12, 0], WORST, [14, 0], [15, 0], [16, 0], [17, 0, 1], [18, 0], METRES, STATE,
 ]
 
 
@@ -47,6 +50,34 @@ def lift(ply):
 
 def missing(station):
     return [5, station]
+
+
+def follow(kind):
+    return [11, kind]
+
+
+def ends(station):
+    return [12, station]
+
+
+def stack(station):
+    return [14, station]
+
+
+def kinds(station):
+    return [15, station]
+
+
+def alike(station):
+    return [16, station]
+
+
+def swap(one, other):
+    return [17, one, other]
+
+
+def stock(kind):
+    return [18, kind]
 
 
 def flat(calls):

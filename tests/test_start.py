@@ -1,8 +1,11 @@
+import contextlib
+import io
 import unittest
 
 from blademould.layup import answers
 from tests.helper import (
-    AFTER_START, FABRIC, FEWEST, GOES, LACKS, MOST, PLAN, Frozen, ask, last, lay, lift, missing, roll, set_need, start,
+    AFTER_START, FABRIC, FEWEST, GOES, LACKS, METRES, MOST, PLAN, STATE, WORST, Frozen, alike, ask, ends, follow, kinds,
+    last, lay, lift, missing, roll, set_need, stack, start, stock, swap,
 )
 
 
@@ -47,7 +50,8 @@ class BeforeStart(unittest.TestCase):
 
     def test_also_where_its_numbers_would_be_refused(self):
         calls = [set_need(MOST, MOST), roll(MOST, 0), lay(5, 2, 9), lift(MOST), missing(MOST)]
-        self.assertEqual(ask(*calls), [[-11]] * 5)
+        calls += [follow(MOST), ends(MOST), stack(MOST), kinds(MOST), alike(MOST), swap(MOST, MOST), stock(MOST)]
+        self.assertEqual(ask(*calls), [[-11]] * 12)
 
     def test_also_after_a_refused_start(self):
         for refused in (start(0, 1, [1]), start(1, 0, [1]), start(1, 1, []), start(1, 1, [13])):
@@ -75,7 +79,7 @@ class SecondStart(unittest.TestCase):
         self.assertEqual(answered[8:], [[0], [1], [-13]])
 
     def test_a_refused_one_changes_nothing(self):
-        seen = (LACKS, PLAN, GOES, FABRIC, roll(0, 1), roll(3, 1), lay(0, 1, 0), lift(1))
+        seen = (LACKS, PLAN, GOES, FABRIC, WORST, METRES, STATE, roll(0, 1), roll(3, 1), lay(0, 1, 0), lift(1))
         for refused in (start(101, 1, [1]), start(5, 21, [1]), start(5, 1, [1] * 13), start(5, 1, [3, 13])):
             answered = ask(*self.BUSY, refused, *seen)
             self.assertEqual(answered[6], [-22])
@@ -104,6 +108,12 @@ class Interface(unittest.TestCase):
         first = answers([0, 10, 3, 2, 1, 2, 6])
         first.clear()
         self.assertEqual(answers([0, 10, 3, 2, 1, 2, 6]), [1, 2, 3, 2, 1, 2])
+
+    def test_it_prints_nothing(self):
+        printed = io.StringIO()
+        with contextlib.redirect_stdout(printed), contextlib.redirect_stderr(printed):
+            ask(start(10, 3, [1, 2]), *AFTER_START)
+        self.assertEqual(printed.getvalue(), "")
 
     def test_two_hundred_calls(self):
         self.assertEqual(ask(start(1, 1, [1] * 12), *[LACKS] * 199)[1:], [[12] + [1] * 12] * 199)
